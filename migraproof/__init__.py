@@ -1,0 +1,1 @@
+"""Migraproof: exact analysis, repair and recovery of table migrations."""

@@ -1,0 +1,165 @@
+"""Rules of the language of the package that can be seen in its files, and where the interface's names are defined."""
+
+import ast
+import builtins
+import inspect
+import os
+import re
+import unittest
+
+import migraproof
+
+FOLDER = os.path.dirname(migraproof.__file__)
+# The words that rule L17 bars from the files, strings included, and those barred inside longer words as well.
+BARRED = ("type", "typing", "typing_extensions", "enum", "Enum", "IntEnum", "StrEnum", "Flag", "IntFlag", "Generic",
+          "Protocol", "ABC", "ABCMeta", "namedtuple", "NamedTuple", "TypedDict", "TYPE_CHECKING", "abstractmethod")
+BARRED_INSIDE = ("dataclass", "overload", "contextmanager")
+BUILTINS = ("len range enumerate zip min max sum abs sorted reversed int str bool list tuple dict set isinstance ord "
+            "repr any all divmod ValueError super").split()
+LIBRARY = ("heapq", "math", "itertools", "collections")
+
+# What the interface lists for each module that is there: names, and how they are called.
+INTERFACE = {
+    "texts": {"sample_texts": "(many, *, but=())", "spare_texts": "(many, *, but=())", "ascending": "(texts)"},
+    "trees": {"texts_of": "(tree)", "size": "(tree)", "depth": "(tree)", "tree_renamed": "(tree, pairs)"},
+    "tokens": {"tokens_of": "(source)"},
+}
+
+
+def sources():
+    for name in sorted(os.listdir(FOLDER)):
+        if name.endswith(".py"):
+            with open(os.path.join(FOLDER, name), encoding="utf-8", newline="") as file:
+                yield name, file.read()
+
+
+def trees():
+    for name, source in sources():
+        yield name, ast.parse(source)
+
+
+def without_docstrings(tree):
+    for node in ast.walk(tree):
+        if isinstance(node, (ast.Module, ast.ClassDef, ast.FunctionDef)) and ast.get_docstring(node) is not None:
+            node.body = node.body[1:] or [ast.Pass()]
+    return ast.unparse(tree)
+
+
+def defined_in(tree):
+    return {node.name for node in tree.body if isinstance(node, (ast.FunctionDef, ast.ClassDef))} | {
+        target.id for node in tree.body if isinstance(node, ast.Assign) for target in node.targets}
+
+
+def bound_names(tree):
+    for node in ast.walk(tree):
+        if isinstance(node, ast.Name) and isinstance(node.ctx, ast.Store):
+            yield node.id
+        elif isinstance(node, ast.arg):
+            yield node.arg
+        elif isinstance(node, (ast.FunctionDef, ast.ClassDef)):
+            yield node.name
+
+
+class Language(unittest.TestCase):
+    def test_the_folder_contains_python_files_only(self):
+        for name in os.listdir(FOLDER):
+            if name != "__pycache__":
+                self.assertRegex(name, r"\A(__init__|[a-z][a-z0-9_]*)\.py\Z")
+
+    def test_sizes_and_characters(self):
+        for name, source in sources():
+            self.assertNotRegex(source, r"[^ -~\n]", name)
+            lines = source.split("\n")
+            self.assertLessEqual(len(lines), 399, name)
+            self.assertLessEqual(max(map(len, lines)), 120, name)
+            self.assertFalse([line for line in lines if line != line.rstrip()], name)
+        for name, tree in trees():
+            for node in ast.walk(tree):
+                if isinstance(node, ast.FunctionDef):
+                    self.assertLessEqual(node.end_lineno - node.lineno + 1, 40, f"{name}: {node.name}")
+
+    def test_barred_words(self):
+        for name, tree in trees():
+            code = without_docstrings(tree)
+            for word in BARRED:
+                self.assertIsNone(re.search(rf"\b{word}\b", code), f"{name}: {word}")
+            for word in BARRED_INSIDE:
+                self.assertNotIn(word, code, name)
+
+    def test_strings(self):
+        for name, tree in trees():
+            for node in ast.walk(ast.parse(without_docstrings(tree))):
+                if isinstance(node, ast.Constant) and isinstance(node.value, str):
+                    self.assertNotIn("%", node.value, name)
+                    self.assertNotIn("__", node.value, name)
+                self.assertNotIsInstance(getattr(node, "value", None), (float, complex), name)
+
+    def test_imports(self):
+        bound = {name: defined_in(tree) for name, tree in trees()}
+        for name, tree in trees():
+            for node in ast.walk(tree):
+                self.assertNotIsInstance(node, ast.Import, name)
+                if isinstance(node, ast.ImportFrom):
+                    self.assertIn(node, tree.body, name)
+                    self.assertEqual(node.level, 0, name)
+                    package, _, module = node.module.partition(".")
+                    if package not in LIBRARY:
+                        self.assertEqual(package, "migraproof", name)
+                        for alias in node.names:
+                            self.assertIn(alias.name, bound[f"{module}.py"], f"{name}: {alias.name}")
+
+    def test_no_two_files_import_from_each_other(self):
+        behind = {name: {f"{node.module.partition('.')[2]}.py" for node in tree.body
+                         if isinstance(node, ast.ImportFrom)} for name, tree in trees()}
+        left = dict(behind)
+        while left:
+            free = [name for name in left if not any(other in left for other in left[name])]
+            self.assertTrue(free, f"in a circle: {sorted(left)}")
+            left = {name: others for name, others in left.items() if name not in free}
+
+    def test_statements(self):
+        barred = (ast.AsyncFunctionDef, ast.Global, ast.Div, ast.Await, ast.TryStar, ast.AnnAssign)
+        for name, tree in trees():
+            for node in ast.walk(tree):
+                self.assertNotIsInstance(node, barred, name)
+            for node in tree.body:
+                self.assertIsInstance(node, (ast.Expr, ast.ImportFrom, ast.FunctionDef, ast.ClassDef, ast.Assign), name)
+
+    def test_only_the_listed_builtins_are_used_and_no_builtin_gets_another_meaning(self):
+        for name, tree in trees():
+            for bound in bound_names(tree):
+                self.assertFalse(bound in vars(builtins), f"{name}: {bound}")
+            for node in ast.walk(tree):
+                if isinstance(node, ast.Name) and isinstance(node.ctx, ast.Load) and node.id in vars(builtins):
+                    self.assertIn(node.id, BUILTINS, name)
+
+    def test_no_name_of_an_import_or_a_class_is_bound_again(self):
+        for file, tree in trees():
+            bound = list(bound_names(tree))
+            for node in tree.body:
+                if isinstance(node, ast.ImportFrom):
+                    for alias in node.names:
+                        self.assertNotIn(alias.name, bound, file)
+                elif isinstance(node, ast.ClassDef):
+                    self.assertEqual(bound.count(node.name), 1, f"{file}: {node.name}")
+
+    def test_no_set_is_iterated(self):
+        for name, tree in trees():
+            for node in ast.walk(tree):
+                if isinstance(node, (ast.For, ast.comprehension)):
+                    self.assertNotIsInstance(node.iter, (ast.Set, ast.SetComp), name)
+
+
+class Interface(unittest.TestCase):
+    def test_each_listed_function_is_defined_in_its_own_file(self):
+        found = dict(trees())
+        for module, functions in INTERFACE.items():
+            for name, called in functions.items():
+                with self.subTest(module=module, name=name):
+                    loaded = __import__(f"migraproof.{module}", fromlist=[name])
+                    self.assertIn(name, defined_in(found[f"{module}.py"]))
+                    self.assertEqual(str(inspect.signature(getattr(loaded, name))), called)
+
+
+if __name__ == "__main__":
+    unittest.main()
