@@ -21,8 +21,19 @@ LIBRARY = ("heapq", "math", "itertools", "collections")
 # What the interface lists for each module that is there: names, and how they are called.
 INTERFACE = {
     "texts": {"sample_texts": "(many, *, but=())", "spare_texts": "(many, *, but=())", "ascending": "(texts)"},
+    "records": {"free_texts": "(record, constants)", "renamed": "(record, pairs)",
+                "exchanged": "(record, first, second)", "canonical": "(record, constants)",
+                "renaming": "(first, second, constants)"},
     "trees": {"texts_of": "(tree)", "size": "(tree)", "depth": "(tree)", "tree_renamed": "(tree, pairs)"},
+    "conditions": {"holds": "(tables, condition, record)", "cell_of": "(tables, expression, record)"},
+    "schemas": {"check_condition": "(tables, condition)", "check_schema": "(schema)", "constants_of": "(schema)",
+                "has_form": "(schema, record)", "has_shape": "(schema, record)", "fits": "(schema, record)",
+                "is_valid": "(schema, record)", "what_is_wrong": "(schema, record)"},
+    "counting": {"many_candidates": "(schema, many)", "candidate_at": "(schema, constants, number)",
+                 "number_of": "(schema, constants, record)"},
     "tokens": {"tokens_of": "(source)"},
+    "reader": {"read_schema": "(source)", "read_condition": "(source)", "read_expression": "(source)",
+               "read_script": "(source)"},
 }
 
 
