@@ -43,7 +43,7 @@ def number_of(schema, constants, record):
             number += walk.ways_without(columns)
             walk.enter()
         for column, cell in zip(columns, row):
-            number += walk.cells_for(column).index(cell) * walk.ways_behind()
+            number += walk.cells_now(column).index(cell) * walk.ways_behind()
             walk.choose(cell)
     return number
 
@@ -53,7 +53,7 @@ def row_at(walk, columns, number):
     the candidate's number among those behind the row."""
     row = []
     for column in columns:
-        cells = walk.cells_for(column)
+        cells = walk.cells_now(column)
         behind = walk.ways_behind()
         at = min(number // behind, len(cells) - 1)
         number -= at * behind
@@ -85,13 +85,9 @@ class Walk:
         """Chooses a row in the optional table that is to be chosen now."""
         self.made += 1
 
-    def cells_for(self, column):
-        """The cells that the column can have, in the order of the choices."""
-        _, kind, is_nullable = column
-        cells = [None] if is_nullable else []
-        if kind == "text":
-            return [*cells, *self.constants, *self.samples[:self.used + 1]]
-        return cells + [(name,) for name in kind]
+    def cells_now(self, column):
+        """The cells that the column can have that is to be chosen now."""
+        return cells_for(column, (*self.constants, *self.samples[:self.used + 1]))
 
     def ways_behind(self):
         """How many candidates go on with a cell that is not the next sample text."""
@@ -102,6 +98,15 @@ class Walk:
         self.made += 1
         if cell == self.samples[self.used]:
             self.used += 1
+
+
+def cells_for(column, texts):
+    """The cells that the column can have if its texts are among these, in the order of the choices."""
+    _, kind, is_nullable = column
+    cells = [None] if is_nullable else []
+    if kind == "text":
+        return [*cells, *texts]
+    return cells + [(name,) for name in kind]
 
 
 def choices_of(schema, many):

@@ -5,19 +5,12 @@ from migraproof.texts import sample_texts
 
 def free_texts(record, constants):
     """The texts of the record that are not constants, in the order of their first occurrences."""
-    fixed = set(constants)
-    found = {}
-    for row in record:
-        for cell in row or ():
-            if isinstance(cell, str) and cell not in fixed:
-                found[cell] = True
-    return tuple(found)
+    return tuple(texts_beside(record, {text: True for text in constants}))
 
 
 def renamed(record, pairs):
     """The record with the first texts of the pairs replaced by the second ones, all at once."""
-    news = dict(pairs)
-    return tuple([row_with_new_texts(row, news) for row in record])
+    return record_with_new_texts(record, dict(pairs))
 
 
 def exchanged(record, first, second):
@@ -37,6 +30,21 @@ def renaming(first, second, constants):
     if canonical(first, constants) != canonical(second, constants):
         return None
     return tuple(zip(free_texts(first, constants), free_texts(second, constants)))
+
+
+def texts_beside(record, fixed):
+    """The list of the texts of the record that are no keys of the dict, in the order of their first occurrences."""
+    found = {}
+    for row in record:
+        for cell in row or ():
+            if isinstance(cell, str) and cell not in fixed:
+                found[cell] = True
+    return list(found)
+
+
+def record_with_new_texts(record, news):
+    """The record with each text that is a key of the dict replaced by what stands there."""
+    return tuple([row_with_new_texts(row, news) for row in record])
 
 
 def row_with_new_texts(row, news):

@@ -6,62 +6,7 @@ import unittest
 from migraproof.counting import candidate_at, many_candidates, number_of
 from migraproof.records import canonical, renamed
 from migraproof.schemas import fits
-
-
-def table(name, *columns, optional=False):
-    return (name, optional, columns)
-
-
-def text(name, nullable=False):
-    return (name, "text", nullable)
-
-
-def values(name, many, nullable=False):
-    return (name, tuple(f"w{number}" for number in range(many)), nullable)
-
-
-PAIR = ((table("t", text("a"), text("b", True)),), (("!=", ("column", "t", "b"), ("column", "t", "a")),))
-MIXED = ((table("t", text("a", True), values("s", 2)), table("u", values("k", 3, True), text("b"), optional=True),
-          table("w", text("c", True))), ())
-OPTIONAL = ((table("t", text("a"), optional=True), table("u", values("s", 2, True), text("b", True), optional=True)),
-            ())
-MIDDLE = ((table("t", text("a"), text("b"), optional=True), table("u", text("c")),
-           table("w", text("d", True), optional=True)), ())
-SMALL = (PAIR, MIXED, OPTIONAL, MIDDLE)
-SOME_CONSTANTS = ((), ("x",), ("v1",), ("", "v2"), ("v1", "v2", "v4"))
-
-
-def listed(schema, constants):
-    """The candidates by choices, written down as [80] tells them."""
-    samples = [f"v{number}" for number in range(1, 60) if f"v{number}" not in constants]
-    choices = []
-    for place, (_, optional, columns) in enumerate(schema[0]):
-        choices.append(("row", place, optional))
-        choices.extend(("cell", place, column) for column in columns)
-
-    def go_on(at, rows, used):
-        if at == len(choices):
-            yield tuple(None if row is None else tuple(row) for row in rows)
-            return
-        word, place, what = choices[at]
-        if word == "row":
-            if what:
-                yield from go_on(at + 1, [*rows, None], used)
-            yield from go_on(at + 1, [*rows, []], used)
-        elif rows[place] is None:
-            yield from go_on(at + 1, rows, used)
-        else:
-            _, kind, nullable = what
-            cells = [None] if nullable else []
-            if kind == "text":
-                cells += [*constants, *samples[:used + 1]]
-            else:
-                cells += [(name,) for name in kind]
-            for cell in cells:
-                is_new = cell == samples[used]
-                yield from go_on(at + 1, [*rows[:place], [*rows[place], cell]], used + 1 if is_new else used)
-
-    return list(go_on(0, [], 0))
+from samples import MIDDLE, OPTIONAL, PAIR, SMALL, SOME_CONSTANTS, listed, table, text, values
 
 
 class Point84(unittest.TestCase):

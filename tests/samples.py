@@ -1,0 +1,130 @@
+"""Schemas, records, results and scripts for the tests, and what the document tells of them in the plainest way."""
+
+import itertools
+
+from migraproof.conditions import holds
+from migraproof.schemas import fits
+
+
+def table(name, *columns, optional=False):
+    return (name, optional, columns)
+
+
+def text(name, nullable=False):
+    return (name, "text", nullable)
+
+
+def values(name, many, nullable=False):
+    return (name, tuple(f"w{number}" for number in range(many)), nullable)
+
+
+def column(name):
+    """The operand for a column, as in "t.a"."""
+    return ("column", *name.split("."))
+
+
+def equal(first, second):
+    return ("=", first, second)
+
+
+def unequal(first, second):
+    return ("!=", first, second)
+
+
+NULL, X = ("cell", None), ("cell", "x")
+ONE = ((table("t", text("a")),), ())
+PAIR = ((table("t", text("a"), text("b", True)),), (("!=", ("column", "t", "b"), ("column", "t", "a")),))
+FREE_PAIR = (PAIR[0], ())
+MIXED = ((table("t", text("a", True), values("s", 2)), table("u", values("k", 3, True), text("b"), optional=True),
+          table("w", text("c", True))), ())
+OPTIONAL = ((table("t", text("a"), optional=True), table("u", values("s", 2, True), text("b", True), optional=True)),
+            ())
+MIDDLE = ((table("t", text("a"), text("b"), optional=True), table("u", text("c")),
+           table("w", text("d", True), optional=True)), ())
+TAGGED = ((table("t", values("s", 2), text("a"), text("b", True)),),
+          (("or", (("=", column("t.s"), ("cell", ("w0",))), ("!=", column("t.a"), X))),))
+SPLIT = ((table("p", text("a", True), optional=True), table("q", text("b"), values("s", 2, True), optional=True)),
+         (("or", (("exists", "p"), ("!=", column("q.b"), X))),))
+IMPOSSIBLE = (ONE[0], (("=", column("t.a"), ("cell", "y")), ("!=", column("t.a"), ("cell", "y"))))
+SMALL = (PAIR, MIXED, OPTIONAL, MIDDLE)
+SOME_CONSTANTS = ((), ("x",), ("v1",), ("", "v2"), ("v1", "v2", "v4"))
+
+
+def listed(schema, constants):
+    """The candidates by choices, written down as [80] tells them."""
+    samples = [f"v{number}" for number in range(1, 60) if f"v{number}" not in constants]
+    choices = []
+    for place, (_, optional, columns) in enumerate(schema[0]):
+        choices.append(("row", place, optional))
+        choices.extend(("cell", place, column) for column in columns)
+
+    def go_on(at, rows, used):
+        if at == len(choices):
+            yield tuple(None if row is None else tuple(row) for row in rows)
+            return
+        word, place, what = choices[at]
+        if word == "row":
+            if what:
+                yield from go_on(at + 1, [*rows, None], used)
+            yield from go_on(at + 1, [*rows, []], used)
+        elif rows[place] is None:
+            yield from go_on(at + 1, rows, used)
+        else:
+            _, kind, nullable = what
+            cells = [None] if nullable else []
+            if kind == "text":
+                cells += [*constants, *samples[:used + 1]]
+            else:
+                cells += [(name,) for name in kind]
+            for cell in cells:
+                is_new = cell == samples[used]
+                yield from go_on(at + 1, [*rows[:place], [*rows[place], cell]], used + 1 if is_new else used)
+
+    return list(go_on(0, [], 0))
+
+
+def valid_over(schema, texts):
+    """All valid records with these texts, from all combinations of cells."""
+    places = []
+    for _, optional, columns in schema[0]:
+        cells = [[None, *(texts if kind == "text" else [(name,) for name in kind])] for _, kind, _ in columns]
+        places.append([None, *itertools.product(*cells)] if optional else list(itertools.product(*cells)))
+    return [record for record in itertools.product(*places)
+            if fits(schema, record) and all(holds(schema[0], check, record) for check in schema[1])]
+
+
+def texts_in(record):
+    """The texts of a record, in the order of its cells, each once."""
+    cells = [cell for row in record for cell in row or () if isinstance(cell, str)]
+    return tuple(dict.fromkeys(cells))
+
+
+def random_result(rng, target, texts, drops=0.2):
+    """None, or a record of the shape of the target with some of the texts; it is often not valid."""
+    if rng.random() < drops:
+        return None
+    while True:
+        record = tuple(None if optional and rng.random() < 0.4 else tuple(random_cell(rng, kind, texts)
+                                                                         for _, kind, _ in columns)
+                       for _, optional, columns in target[0])
+        if any(row is not None for row in record):
+            return record
+
+
+def random_cell(rng, kind, texts):
+    """Null, or a text, or a value that may be unknown."""
+    if rng.random() < 0.2:
+        return None
+    if kind == "text":
+        return rng.choice(texts) if texts else None
+    return (rng.choice((*kind, "unknown")),)
+
+
+def random_valid_results(rng, target, constants, records):
+    """For each record None or a valid record of the target with texts of the record and constants."""
+    results = []
+    for record in records:
+        known = tuple(sorted({*constants, *texts_in(record)}))
+        found = valid_over(target, known)
+        results.append(rng.choice(found) if found and rng.random() < 0.9 else None)
+    return tuple(results)
