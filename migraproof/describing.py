@@ -30,7 +30,7 @@ def condition_of(schema, constants, numbers):
     """A condition that is true, among the records that fit, for those that are similar to these candidates."""
     distinctions = Distinctions(schema, constants, list(each_candidate(schema, constants)))
     wanted = selection(numbers)
-    return distinctions.condition_for(wanted, distinctions.everything ^ wanted)
+    return distinctions.condition_for(wanted, without(distinctions.everything, wanted))
 
 
 class Distinctions:
@@ -51,7 +51,7 @@ class Distinctions:
         terms = self.terms_for(wanted, others)
         terms_against = self.terms_for(others, wanted)
         if many_literals(terms_against) < many_literals(terms):
-            return negated(any_of([all_of(literals) for literals in terms_against]))
+            return ("not", any_of([all_of(literals) for literals in terms_against]))
         return any_of([all_of(literals) for literals in terms])
 
     def terms_for(self, wanted, others):
@@ -67,7 +67,7 @@ class Distinctions:
                 at = self.next_split(good | bad, start)
                 atom, true_for = self.atoms[at], self.true_for[at]
                 false_literals = (*literals, negated(atom))
-                waiting.append((good & (good ^ true_for), bad & (bad ^ true_for), at + 1, false_literals))
+                waiting.append((without(good, true_for), without(bad, true_for), at + 1, false_literals))
                 waiting.append((good & true_for, bad & true_for, at + 1, literals_with(literals, atom)))
             elif good:
                 terms.append(literals)
@@ -76,7 +76,7 @@ class Distinctions:
     def next_split(self, selected, start):
         """The number of the first atom, from this one on, that is true for some of the selected records only."""
         at = start
-        while self.true_for[at] & selected in (0, selected):
+        while (self.true_for[at] & selected) in (0, selected):
             at += 1
         return at
 
@@ -113,15 +113,11 @@ def literals_with(literals, atom):
     return (*kept, atom)
 
 
-def negated(condition):
-    """A condition that is true if and only if this one is false."""
-    if condition[0] == "=":
-        return ("!=", condition[1], condition[2])
-    if condition[0] == "!=":
-        return ("=", condition[1], condition[2])
-    if condition[0] == "not":
-        return condition[1]
-    return ("not", condition)
+def negated(atom):
+    """A condition that is true if and only if the atom is false."""
+    if atom[0] == "=":
+        return ("!=", atom[1], atom[2])
+    return ("not", atom)
 
 
 def all_of(conditions):
@@ -141,6 +137,11 @@ def any_of(conditions):
 def many_literals(terms):
     """How many literals the terms have together."""
     return sum([len(literals) for literals in terms])
+
+
+def without(selected, others):
+    """The selection of what is selected, but not among the others."""
+    return selected & (selected ^ others)
 
 
 def selection(numbers):

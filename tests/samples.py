@@ -128,3 +128,49 @@ def random_valid_results(rng, target, constants, records):
         found = valid_over(target, known)
         results.append(rng.choice(found) if found and rng.random() < 0.9 else None)
     return tuple(results)
+
+
+def random_operand(rng, tables, kinds, texts):
+    """A column, null, a text or a value, of one of these kinds."""
+    options = [("column", name, at) for name, _, columns in tables for at, kind, _ in columns
+               if ("text" if kind == "text" else "value") in kinds]
+    options.append(NULL)
+    if "text" in kinds:
+        options.extend(("cell", word) for word in texts)
+    if "value" in kinds:
+        options.extend((("cell", ("w0",)), ("cell", ("w1",))))
+    return rng.choice(options)
+
+
+def random_condition(rng, tables, texts, level):
+    """A condition that raises no error for the tables."""
+    word = rng.choice(("=", "=", "!=", "exists", "not", "and", "or") if level else ("=", "!=", "exists"))
+    if word == "exists":
+        return (word, rng.choice(tables)[0])
+    if word in ("=", "!="):
+        kinds = rng.choice((("text",), ("text",), ("value",)))
+        return (word, *[random_operand(rng, tables, kinds, texts) for _ in range(2)])
+    parts = tuple(random_condition(rng, tables, texts, level - 1) for _ in range(rng.randint(2, 3)))
+    return ("not", parts[0]) if word == "not" else (word, parts)
+
+
+def random_expression(rng, tables, kind, texts, level):
+    """An expression for a column of the kind."""
+    if not level or rng.random() < 0.3:
+        return random_operand(rng, tables, (kind,), texts)
+    branches = tuple((random_condition(rng, tables, texts, 1), random_expression(rng, tables, kind, texts, level - 1))
+                     for _ in range(rng.randint(1, 2)))
+    return ("if", branches, random_operand(rng, tables, (kind,), texts))
+
+
+def random_script(rng, source, target, texts):
+    """A script from the source to the target that raises no error."""
+    rules = [("drop", random_condition(rng, source[0], texts, 2)) for _ in range(rng.choice((0, 0, 1, 1, 2)))]
+    for name, optional, columns in target[0]:
+        if optional and rng.random() < 0.7:
+            rules.append(("when", name, random_condition(rng, source[0], texts, 2)))
+        for at, kind, _ in columns:
+            expression = random_expression(rng, source[0], "text" if kind == "text" else "value", texts, 2)
+            rules.append(("set", name, at, expression))
+    rng.shuffle(rules)
+    return tuple(rules)

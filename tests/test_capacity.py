@@ -111,7 +111,8 @@ class Capacity(unittest.TestCase):
         for columns, expected in (
             ((text("a"),), (0, 1)), ((values("s", 7),), (7,)), ((text("a", True),), (1, 1)),
             ((values("s", 7, True),), (8,)), ((text("a"), text("b")), (0, 0, 1)),
-            ((text("a", True), values("s", 3), text("b")), (0, 3, 3)), ((text("a"), text("b"), text("c")), (0, 0, 0, 1)),
+            ((text("a", True), values("s", 3), text("b")), (0, 3, 3)),
+            ((text("a"), text("b"), text("c")), (0, 0, 0, 1)),
         ):
             self.assertEqual(capacity(((table("t", *columns),), ())), expected)
             rest = table("u", text("c"))
@@ -175,7 +176,8 @@ class RecordsOver(unittest.TestCase):
                          tuple((row,) for row in itertools.product(("b", "z"), (None, "b", "z"))))
 
     def test_optional_tables_have_no_row_first(self):
-        self.assertEqual(records_over(((table("t", text("a"), optional=True), table("u", text("b"))), ()), ("p", "q")), (
+        schema = ((table("t", text("a"), optional=True), table("u", text("b"))), ())
+        self.assertEqual(records_over(schema, ("p", "q")), (
             (None, ("p",)), (None, ("q",)), (("p",), ("p",)), (("p",), ("q",)), (("q",), ("p",)), (("q",), ("q",))))
 
     def test_checks(self):
@@ -193,8 +195,9 @@ class RecordsOver(unittest.TestCase):
     def test_300_records_and_more(self):
         names = tuple(sorted(f"k{number}" for number in range(300)))
         self.assertEqual(records_over(ONE, names), tuple(((name,),) for name in names))
-        self.assertEqual(records_over(((table("t", text("a", True)),), ()), names[:299])[0], ((None,),))
-        self.assertEqual(raised_text(records_over, ((table("t", text("a", True)),), ()), names), "TooManyCases(count=301)")
+        nullable = ((table("t", text("a", True)),), ())
+        self.assertEqual(records_over(nullable, names[:299])[0], ((None,),))
+        self.assertEqual(raised_text(records_over, nullable, names), "TooManyCases(count=301)")
         self.assertEqual(raised_text(records_over, FREE_PAIR, names), f"TooManyCases(count={300 * 301})")
         self.assertEqual(len(records_over(FREE_PAIR, names[:16])), 272)
         self.assertEqual(raised_text(records_over, FREE_PAIR, names[:17]), "TooManyCases(count=306)")
@@ -207,8 +210,9 @@ class RecordsOver(unittest.TestCase):
     def test_many_choices_that_give_no_record(self):
         wide = table("t", *[values(f"s{number}", 300) for number in range(10)])
         self.assertEqual(records_over(((wide, table("u", text("a"))), ()), ()), ())
-        self.assertEqual(records_over(((table("t", *wide[2], text("a"), optional=True), table("u", values("s", 2))), ()),
-                                      ()), ((None, (("w0",),)), (None, (("w1",),))))
+        optional = table("t", *wide[2], text("a"), optional=True)
+        self.assertEqual(records_over(((optional, table("u", values("s", 2))), ()), ()),
+                         ((None, (("w0",),)), (None, (("w1",),))))
 
 
 class Excess(unittest.TestCase):

@@ -7,9 +7,16 @@ from support import check_examples
 # Point 3, as far as the modules go that are there.
 BEGINNING = """
 >>> from migraproof.reader import read_schema, read_script
+>>> from migraproof.migrations import compiled
+>>> from migraproof.capacity import capacity, excess
 >>> before = read_schema("table person { name text; nick text null; status active | banned; } check person.nick != person.name;")
 >>> after = read_schema("table account { login text; display text; }")
 >>> script = read_script("account.login = person.name; account.display = if person.nick = null then person.name else person.nick;")
+>>> draft = compiled(before, after, script)
+>>> (capacity(before), capacity(after))
+((0, 0, 2), (0, 0, 1))
+>>> excess(before, after)
+(1, 2, 1)
 """
 
 TEXTS = """
@@ -95,6 +102,130 @@ COUNTING = """
 6
 """
 
+CASES = """
+>>> from migraproof.cases import each_candidate, cases, fixture
+>>> list(each_candidate(unlike_pair, ()))
+[(('v1', None),), (('v1', 'v1'),), (('v1', 'v2'),)]
+>>> cases(unlike_pair, ("x",))
+((('x', None),), (('x', 'v1'),), (('v1', None),), (('v1', 'x'),), (('v1', 'v2'),))
+>>> fixture(unlike_pair, schema, own=("b", "b"))[0]
+('b', 'x')
+"""
+
+DESCRIBING = """
+>>> from migraproof.describing import apart, description, condition_of
+>>> apart(unlike_pair, (("p", "p"),), (("p", "q"),), ())
+('=', ('column', 't', 'b'), ('column', 't', 'a'))
+>>> apart(unlike_pair, (("p", "q"),), (("x", "p"),), ("x",))
+('=', ('column', 't', 'a'), ('cell', 'x'))
+>>> holds(pair, description(unlike_pair, (("p", "q"),), ("x",)), (("q", "y"),))
+True
+>>> holds(pair, condition_of(unlike_pair, ("x",), (0, 6)), (("x", "p"),))
+False
+"""
+
+POLYNOMIALS = """
+>>> from migraproof.polynomials import value_at, added, multiplied, falling, signs, compare
+>>> (value_at((1, -2, 1), 5), added((1, 2), (3, -2)), multiplied((1, 1), (1, -1)), falling(2, 2))
+(16, (4,), (1, 0, -1), (6, -5, 1))
+>>> signs((3, -4, 1))
+((0, 1), (1, 0), (2, -1), (3, 0), (4, 1))
+>>> (signs(()), compare((0, 0, 1), (0, 5)), compare((7,), (7,)))
+(((0, 0),), (6, 1), (0, 0))
+"""
+
+CAPACITY = """
+>>> from migraproof.capacity import counts, from_counts, records_over
+>>> counts(unlike_pair, ("x",))
+(1, 3, 1)
+>>> (from_counts((1, 3, 1), 1), capacity(unlike_pair), capacity(schema))
+((0, 0, 1), (0, 0, 1), (0, 3, 2))
+>>> records_over(unlike_pair, ("p", "q"))
+((('p', None),), (('p', 'q'),), (('q', None),), (('q', 'p'),))
+>>> (excess(unlike_pair, schema) is None, excess(schema, unlike_pair))
+(True, (1, 5, 1))
+"""
+
+SCRIPTS = """
+>>> from migraproof.scripts import check_script, applied, script_texts
+>>> people = ((("person", False, (("name", "text", False), ("city", "text", True), ("status", ("member", "guest"), False))),), ())
+>>> split = ((("person", False, (("full_name", "text", False),)), ("address", True, (("city", "text", False),))), ())
+>>> name, city = ("column", "person", "name"), ("column", "person", "city")
+>>> rules = (("set", "person", "full_name", name), ("when", "address", ("!=", city, ("cell", None))), ("set", "address", "city", city))
+>>> check_script(people, split, rules) is None
+True
+>>> applied(people, split, rules, (("ann", "rome", ("member",)),))
+(('ann',), ('rome',))
+>>> applied(people, split, rules, (("bob", None, ("guest",)),))
+(('bob',), None)
+>>> check_script(people, split, rules[:2])
+raises NotAssigned(name='address.city')
+>>> check_script(people, split, (("set", "person", "full_name", ("column", "person", "status")),))
+raises WrongKind(name='person.full_name')
+>>> script_texts((("drop", unlike), ("set", "t", "a", choice)))
+('x', 'y')
+"""
+
+MIGRATIONS = """
+>>> from migraproof.migrations import from_results, identity, reduced, first_use, examples, result, migrated
+>>> one = ((("t", False, (("a", "text", False),)),), ())
+>>> a = ("column", "t", "a")
+>>> swap = compiled(one, one, (("drop", ("=", a, ("cell", "z"))), ("set", "t", "a", ("if", ((("=", a, ("cell", "x")), ("cell", "y")),), a))))
+>>> swap[2]
+('x', 'y', 'z')
+>>> examples(swap)
+(((('x',),), (('y',),)), ((('y',),), (('y',),)), ((('z',),), None), ((('v1',),), (('v1',),)))
+>>> compiled(one, one, (("set", "t", "a", ("if", ((("=", a, ("cell", "x")), ("cell", "x")),), a)),)) == identity(one)
+True
+>>> first_use(swap, "y")
+((('x',),), 'v1')
+>>> reduced((one, one, ("k",), ((("k",),), (("v1",),)))) == identity(one)
+True
+>>> migrated(swap, (("k1", (("x",),)), ("k2", (("z",),)), ("k3", (("v7",),))))
+(('k1', (('y',),)), ('k3', (('v7',),)))
+>>> from_results(one, one, (None, (("v2",),)), own=("x",))
+raises UnknownText(place=1, text='v2')
+>>> result(swap, ((None,),))
+raises InvalidRecord(key=None)
+"""
+
+COMPOSING = """
+>>> from migraproof.composing import followed_by
+>>> followed_by(swap, swap) == swap
+True
+"""
+
+SCRIPTING = """
+>>> from migraproof.scripting import script_of
+>>> compiled(one, one, script_of(swap)) == swap
+True
+"""
+
+# The lines of migraproof/analysis.py that later examples use.
+ANALYSIS = """
+>>> two = ((("t", False, (("a", "text", False), ("b", "text", False))),), ())
+>>> b = ("column", "t", "b")
+>>> turned = compiled(two, two, (("set", "t", "a", b), ("set", "t", "b", a)))
+>>> unequal = ((("u", False, (("c", "text", False), ("d", "text", False))),), (("!=", ("column", "u", "c"), ("column", "u", "d")),))
+>>> nullable = (pair, ())
+>>> partly = compiled(nullable, unequal, (("drop", ("=", b, a)), ("set", "u", "c", a), ("set", "u", "d", b)))
+"""
+
+RECOVERY = """
+>>> from migraproof.recovery import recover, recover_record, is_collision
+>>> free = ((("u", False, (("c", "text", False), ("d", "text", False))),), ())
+>>> filled = compiled(nullable, free, (("set", "u", "c", a), ("set", "u", "d", ("if", ((("=", b, ("cell", None)), a),), b))))
+>>> recover_record(filled)
+(None, ((('v1', None),), (('v1', 'v1'),)))
+>>> is_collision(filled, identity(nullable), (("p", "p"),), (("p", None),))
+True
+>>> answer = ((("answer", False, (("differs", ("yes", "no"), False),)),), ())
+>>> no_difference = ("or", (("=", b, ("cell", None)), ("=", b, a)))
+>>> question = compiled(nullable, answer, (("set", "answer", "differs", ("if", ((no_difference, ("cell", ("no",))),), ("cell", ("yes",)))),))
+>>> examples(recover(filled, question)[0])
+(((('v1', 'v1'),), ((('no',),),)), ((('v1', 'v2'),), ((('yes',),),)))
+"""
+
 TOKENS = """
 >>> from migraproof.tokens import tokens_of
 >>> tokens_of('a != "x y" ;')
@@ -121,7 +252,8 @@ raises TextError(place=17, reason='expected )')
 class Examples(unittest.TestCase):
     def test_examples_of_the_interface(self):
         names = {}
-        for text in (BEGINNING, TEXTS, RECORDS, TREES, CONDITIONS, SCHEMAS, COUNTING, TOKENS, READER):
+        for text in (BEGINNING, TEXTS, RECORDS, TREES, CONDITIONS, SCHEMAS, COUNTING, CASES, DESCRIBING, POLYNOMIALS,
+                     CAPACITY, SCRIPTS, MIGRATIONS, COMPOSING, SCRIPTING, ANALYSIS, RECOVERY, TOKENS, READER):
             check_examples(self, text, names)
 
     def test_what_point_3_reads(self):

@@ -16,6 +16,14 @@ BARRED = ("type", "typing", "typing_extensions", "enum", "Enum", "IntEnum", "Str
 BARRED_INSIDE = ("dataclass", "overload", "contextmanager")
 BUILTINS = ("len range enumerate zip min max sum abs sorted reversed int str bool list tuple dict set isinstance ord "
             "repr any all divmod ValueError super").split()
+# The methods of builtin values that rule L25 lists first, and those of sets that L24 allows.
+METHODS = (
+    "append clear copy count endswith extend find get index insert isalnum isalpha isdigit islower isspace isupper "
+    "items join keys ljust lower lstrip partition pop remove replace reverse rfind rjust rpartition rsplit rstrip "
+    "setdefault split splitlines startswith strip update upper values zfill bit_length add discard").split()
+# What is iterated on the spot, rule L23, and the builtins that iterate.
+ITERATED = ("range", "zip", "enumerate", "reversed", "items", "keys", "values", "each_candidate")
+TAKING = ("list", "tuple", "dict", "sorted", "sum", "any", "all", "enumerate", "zip", "reversed")
 LIBRARY = ("heapq", "math", "itertools", "collections")
 
 # What the interface lists for each module that is there: names, and how they are called.
@@ -31,6 +39,23 @@ INTERFACE = {
                 "is_valid": "(schema, record)", "what_is_wrong": "(schema, record)"},
     "counting": {"many_candidates": "(schema, many)", "candidate_at": "(schema, constants, number)",
                  "number_of": "(schema, constants, record)"},
+    "cases": {"each_candidate": "(schema, constants)", "cases": "(schema, constants)",
+              "fixture": "(source, target, *, own=())"},
+    "describing": {"apart": "(schema, first, second, constants)", "description": "(schema, record, constants)",
+                   "condition_of": "(schema, constants, numbers)"},
+    "polynomials": {"value_at": "(polynomial, n)", "added": "(first, second)", "multiplied": "(first, second)",
+                    "falling": "(start, many)", "signs": "(polynomial)", "compare": "(first, second)"},
+    "capacity": {"counts": "(schema, constants)", "from_counts": "(numbers, many)", "capacity": "(schema)",
+                 "records_over": "(schema, texts)", "excess": "(source, target)"},
+    "scripts": {"check_script": "(source, target, script)", "applied": "(source, target, script, record)",
+                "script_texts": "(script)"},
+    "migrations": {"compiled": "(source, target, script)", "from_results": "(source, target, results, *, own=())",
+                   "identity": "(schema)", "reduced": "(migration)", "first_use": "(migration, text)",
+                   "examples": "(migration)", "result": "(migration, record)", "migrated": "(migration, database)"},
+    "composing": {"followed_by": "(first, second)"},
+    "scripting": {"script_of": "(migration)"},
+    "recovery": {"recover": "(migration, query)", "recover_record": "(migration)",
+                 "is_collision": "(migration, query, first, second)"},
     "tokens": {"tokens_of": "(source)"},
     "reader": {"read_schema": "(source)", "read_condition": "(source)", "read_expression": "(source)",
                "read_script": "(source)"},
@@ -153,6 +178,27 @@ class Language(unittest.TestCase):
                         self.assertNotIn(alias.name, bound, file)
                 elif isinstance(node, ast.ClassDef):
                     self.assertEqual(bound.count(node.name), 1, f"{file}: {node.name}")
+
+    def test_only_the_listed_methods_and_own_ones_are_called(self):
+        own = {node.name for _, tree in trees() for node in ast.walk(tree) if isinstance(node, ast.FunctionDef)}
+        for name, tree in trees():
+            for node in ast.walk(tree):
+                if isinstance(node, ast.Call) and isinstance(node.func, ast.Attribute):
+                    self.assertIn(node.func.attr, {*METHODS, *own}, name)
+
+    def test_what_is_iterated_at_once(self):
+        for name, tree in trees():
+            at_once = set()
+            for node in ast.walk(tree):
+                if isinstance(node, (ast.For, ast.comprehension)):
+                    at_once.add(node.iter)
+                elif isinstance(node, ast.Call) and isinstance(node.func, ast.Name) and node.func.id in TAKING:
+                    at_once.update(node.args)
+            for node in ast.walk(tree):
+                if isinstance(node, ast.Call):
+                    called = node.func.attr if isinstance(node.func, ast.Attribute) else getattr(node.func, "id", None)
+                    if called in ITERATED:
+                        self.assertIn(node, at_once, f"{name}: {ast.unparse(node)}")
 
     def test_no_set_is_iterated(self):
         for name, tree in trees():

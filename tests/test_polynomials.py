@@ -192,7 +192,8 @@ class Signs(unittest.TestCase):
             self.assertEqual(found[0], (0, sign_of(value(polynomial, 0))))
             for (n, sign), (later, _) in zip(found, found[1:]):
                 self.assertLess(n, later)
-                self.assertEqual([sign_of(value(polynomial, at)) for at in (n, (n + later) // 2, later - 1)], [sign] * 3)
+                for at in (n, (n + later) // 2, later - 1):
+                    self.assertEqual(sign_of(value(polynomial, at)), sign)
             for before, (n, sign) in zip(found, found[1:]):
                 self.assertEqual(sign_of(value(polynomial, n)), sign)
                 self.assertNotEqual(sign_of(value(polynomial, n - 1)), sign)

@@ -5,10 +5,11 @@ import unittest
 
 from migraproof.schemas import has_shape
 from migraproof.scripts import applied, check_script, script_texts
-from samples import NULL, X, column, equal, table, text, unequal, valid_over, values
+from samples import NULL, X, column, equal, table, text, unequal, valid_over
 from support import raised_text
 
-SOURCE = ((table("t", text("a"), text("b", True), ("s", ("on", "off"), True)), table("u", text("c"), optional=True)), ())
+SOURCE = ((table("t", text("a"), text("b", True), ("s", ("on", "off"), True)),
+           table("u", text("c"), optional=True)), ())
 TARGET = ((table("p", text("a"), ("k", ("on", "no"), False)), table("q", text("b", True), optional=True),
            table("r", text("c"), optional=True)), ())
 A, B, S, C = column("t.a"), column("t.b"), column("t.s"), column("u.c")
@@ -246,9 +247,9 @@ class ScriptTexts(unittest.TestCase):
         self.assertEqual(script_texts((("set", "p", "a", NULL),)), ())
 
     def test_in_each_place(self):
-        for rule in (("drop", equal(A, X)), ("drop", ("not", ("and", (TRUE, unequal(X, B))))), ("when", "q", equal(X, X)),
-                     ("set", "p", "a", X), ("set", "p", "a", choose((TRUE, X))), ("set", "p", "a", choose((equal(A, X), A))),
-                     ("set", "p", "a", choose((TRUE, A), otherwise=X)),
+        for rule in (("drop", equal(A, X)), ("drop", ("not", ("and", (TRUE, unequal(X, B))))),
+                     ("when", "q", equal(X, X)), ("set", "p", "a", X), ("set", "p", "a", choose((TRUE, X))),
+                     ("set", "p", "a", choose((equal(A, X), A))), ("set", "p", "a", choose((TRUE, A), otherwise=X)),
                      ("set", "p", "a", choose((TRUE, choose((TRUE, A), otherwise=X)), otherwise=A))):
             self.assertEqual(script_texts((rule,)), ("x",))
             self.assertEqual(script_texts((*SETS, rule)), ("x",))
@@ -260,7 +261,8 @@ class ScriptTexts(unittest.TestCase):
                          ("", "b", "c10", "c2", "x"))
 
     def test_names_and_values_are_no_texts(self):
-        self.assertEqual(script_texts((("when", "x", equal(column("y.z"), ("cell", ("w",)))), ("set", "m", "n", ON))), ())
+        rules = (("when", "x", equal(column("y.z"), ("cell", ("w",)))), ("set", "m", "n", ON))
+        self.assertEqual(script_texts(rules), ())
 
 
 if __name__ == "__main__":
