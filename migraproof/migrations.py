@@ -116,7 +116,15 @@ def check_result(target, constants, record, given, place):
 
 def check_results(migration):
     """Raises InvalidResults for the first case whose result is neither None nor valid."""
+    place = invalid_place(migration)
+    if place is not None:
+        raise InvalidResults(place)
+
+
+def invalid_place(migration):
+    """The number of the first case whose result is neither None nor valid, None if there is none."""
     _, target, _, results = migration
     for place, given in enumerate(results):
         if given is not None and not is_valid(target, given):
-            raise InvalidResults(place)
+            return place
+    return None

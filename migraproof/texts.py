@@ -16,6 +16,11 @@ def ascending(texts):
     return tuple(sorted(set(texts)))
 
 
+def with_spare_texts(constants, many):
+    """The constants together with the first so many spare texts for them, ascending."""
+    return ascending((*constants, *spare_texts(many, but=constants)))
+
+
 def numbered_texts(letter, many, constants):
     """The first so many texts of the letter and a number that are no constants."""
     taken = set(constants)

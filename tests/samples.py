@@ -2,7 +2,9 @@
 
 import itertools
 
+from migraproof.cases import cases, fixture
 from migraproof.conditions import holds
+from migraproof.migrations import compiled, from_results, identity, migrated
 from migraproof.schemas import fits
 
 
@@ -31,6 +33,40 @@ def unequal(first, second):
     return ("!=", first, second)
 
 
+def choose(*branches, otherwise=("cell", None)):
+    """The expression that takes the first branch whose condition is true."""
+    return ("if", branches, otherwise)
+
+
+def set_a(expression):
+    return ("set", "t", "a", expression)
+
+
+def set_b(expression):
+    return ("set", "t", "b", expression)
+
+
+def set_c(expression):
+    return ("set", "u", "c", expression)
+
+
+def set_d(expression):
+    return ("set", "u", "d", expression)
+
+
+def tags(condition):
+    """The rule that tells by a value whether the condition is true."""
+    return ("set", "u", "s", choose((condition, ("cell", ("w1",))), otherwise=("cell", ("w0",))))
+
+
+def dropping(source, target, *names):
+    """The migration that drops the records with these texts in a, copies a to all text columns, and sets the others."""
+    a = ("column", "t", "a")
+    sets = tuple(("set", name, at, a if kind == "text" else ("cell", ("w0",))) for name, _, columns in target[0]
+                 for at, kind, _ in columns)
+    return compiled(source, target, (*[("drop", ("=", a, ("cell", name))) for name in names], *sets))
+
+
 NULL, X = ("cell", None), ("cell", "x")
 ONE = ((table("t", text("a")),), ())
 PAIR = ((table("t", text("a"), text("b", True)),), (("!=", ("column", "t", "b"), ("column", "t", "a")),))
@@ -45,6 +81,14 @@ TAGGED = ((table("t", values("s", 2), text("a"), text("b", True)),),
           (("or", (("=", column("t.s"), ("cell", ("w0",))), ("!=", column("t.a"), X))),))
 SPLIT = ((table("p", text("a", True), optional=True), table("q", text("b"), values("s", 2, True), optional=True)),
          (("or", (("exists", "p"), ("!=", column("q.b"), X))),))
+PLAIN = ((table("t", text("a"), text("b")),), ())
+CHOSEN = ((table("t", values("s", 2), text("a"), text("b")),), ())
+# Targets with a table u.
+LETTERS = ((table("u", text("c")),), ())
+TWO = ((table("u", text("c"), text("d")),), ())
+MAYBE_ONE = ((table("u", text("c", True)),), ())
+MAYBE_TWO = ((table("u", text("c", True), text("d", True)),), ())
+TAGS = ((table("u", values("s", 2)),), ())
 IMPOSSIBLE = (ONE[0], (("=", column("t.a"), ("cell", "y")), ("!=", column("t.a"), ("cell", "y"))))
 SMALL = (PAIR, MIXED, OPTIONAL, MIDDLE)
 SOME_CONSTANTS = ((), ("x",), ("v1",), ("", "v2"), ("v1", "v2", "v4"))
@@ -99,6 +143,12 @@ def texts_in(record):
     return tuple(dict.fromkeys(cells))
 
 
+def results_of(migration, records):
+    """The results of all these records at once, as a list."""
+    found = dict(migrated(migration, tuple((f"k{number}", record) for number, record in enumerate(records))))
+    return [found.get(f"k{number}") for number in range(len(records))]
+
+
 def random_result(rng, target, texts, drops=0.2):
     """None, or a record of the shape of the target with some of the texts; it is often not valid."""
     if rng.random() < drops:
@@ -128,6 +178,16 @@ def random_valid_results(rng, target, constants, records):
         found = valid_over(target, known)
         results.append(rng.choice(found) if found and rng.random() < 0.9 else None)
     return tuple(results)
+
+
+def random_migration(rng, source, target, own, valid):
+    """A migration for these own texts at most, with valid results or with any that have the shape of the target."""
+    constants, records = fixture(source, target, own=own)
+    if valid:
+        results = random_valid_results(rng, target, constants, records)
+    else:
+        results = tuple(random_result(rng, target, (*constants, *texts_in(record))) for record in records)
+    return from_results(source, target, results, own=own)
 
 
 def random_operand(rng, tables, kinds, texts):
@@ -174,3 +234,30 @@ def random_script(rng, source, target, texts):
             rules.append(("set", name, at, expression))
     rng.shuffle(rules)
     return tuple(rules)
+
+
+def random_pairs(rng, many):
+    """Pairs of random migrations with the same source; so many for each of some sources."""
+    for source in (ONE, PAIR, PLAIN, FREE_PAIR, CHOSEN, TAGGED):
+        for _ in range(many):
+            pair = []
+            for own in ((), rng.choice(((), ("k",), ("v1",)))):
+                target = rng.choice((LETTERS, TWO, TAGS, MAYBE_ONE, MAYBE_TWO))
+                if rng.random() < 0.6:
+                    pair.append(random_rearrangement(rng, source, target, own))
+                else:
+                    pair.append(random_migration(rng, source, target, own, rng.random() < 0.5))
+            yield pair
+
+
+def random_rearrangement(rng, source, target, own):
+    """A migration that mostly copies texts, and rarely drops."""
+    constants = tuple(sorted({*own, *identity(source)[2]}))
+    results = []
+    for case in cases(source, constants):
+        names = texts_in(case)
+        cells = rng.sample(names, len(names)) + [rng.choice(names) if names else None for _ in range(2)]
+        row = tuple(cells[place] if kind == "text" else (rng.choice(kind),)
+                    for place, (_, kind, _) in enumerate(target[0][0][2]))
+        results.append(None if rng.random() < 0.04 else (row,))
+    return from_results(source, target, tuple(results), own=own)

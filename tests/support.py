@@ -2,6 +2,8 @@
 
 from migraproof import errors
 
+PROPERTIES = ("schema", "plain", "version", "database", "migrations", "log")
+
 
 def read_examples(text):
     """The steps of examples as the document writes them: pairs of the code and the line below it, or None."""
@@ -49,3 +51,8 @@ def check_examples(case, text, names):
                 case.assertEqual("raises " + told_of(error), shown)
             else:
                 case.assertEqual(repr(eval(code, names)), shown)
+
+
+def state(deployment):
+    """All that can be seen of a deployment."""
+    return tuple(getattr(deployment, name) for name in PROPERTIES) + (len(deployment), list(deployment))

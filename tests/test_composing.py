@@ -10,16 +10,12 @@ from migraproof.counting import many_candidates
 from migraproof.migrations import compiled, from_results, identity, migrated, reduced, result
 from migraproof.schemas import constants_of, is_valid
 from samples import (FREE_PAIR, IMPOSSIBLE, NULL, ONE, OPTIONAL, PAIR, SPLIT, TAGGED, X, column, equal,
-                     random_valid_results, table, text, unequal, valid_over, values)
+                     random_valid_results, set_a, table, text, unequal, valid_over, values)
 from support import raised_text
 
 A, B = column("t.a"), column("t.b")
 Y = ("cell", "y")
 TWO = ((table("t", text("a"), text("b")),), ())
-
-
-def set_a(expression):
-    return ("set", "t", "a", expression)
 
 
 def replacing(old, new):

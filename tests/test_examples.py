@@ -4,19 +4,27 @@ import unittest
 
 from support import check_examples
 
-# Point 3, as far as the modules go that are there.
-BEGINNING = """
+POINT_3 = """
 >>> from migraproof.reader import read_schema, read_script
 >>> from migraproof.migrations import compiled
+>>> from migraproof.analysis import analyze
 >>> from migraproof.capacity import capacity, excess
+>>> from migraproof.repair import repair
+>>> from migraproof.fibres import archive_size
 >>> before = read_schema("table person { name text; nick text null; status active | banned; } check person.nick != person.name;")
 >>> after = read_schema("table account { login text; display text; }")
 >>> script = read_script("account.login = person.name; account.display = if person.nick = null then person.name else person.nick;")
 >>> draft = compiled(before, after, script)
+>>> analyze(draft)
+(None, ((('v1', None, ('active',)),), (('v1', None, ('banned',)),)), None)
 >>> (capacity(before), capacity(after))
 ((0, 0, 2), (0, 0, 1))
 >>> excess(before, after)
 (1, 2, 1)
+>>> repair(draft) is None
+True
+>>> archive_size(draft)
+(0, 2)
 """
 
 TEXTS = """
@@ -201,14 +209,30 @@ SCRIPTING = """
 True
 """
 
-# The lines of migraproof/analysis.py that later examples use.
 ANALYSIS = """
+>>> from migraproof.analysis import compare_migrations, is_lossless, inverse
 >>> two = ((("t", False, (("a", "text", False), ("b", "text", False))),), ())
 >>> b = ("column", "t", "b")
 >>> turned = compiled(two, two, (("set", "t", "a", b), ("set", "t", "b", a)))
+>>> compare_migrations(turned, identity(two))
+((('v1', 'v2'),), (('v2', 'v1'),), (('v1', 'v2'),))
+>>> inverse(turned) == turned
+True
 >>> unequal = ((("u", False, (("c", "text", False), ("d", "text", False))),), (("!=", ("column", "u", "c"), ("column", "u", "d")),))
 >>> nullable = (pair, ())
 >>> partly = compiled(nullable, unequal, (("drop", ("=", b, a)), ("set", "u", "c", a), ("set", "u", "d", b)))
+>>> analyze(partly)
+(((('v1', None),), (('v1', None),)), ((('v1', 'v1'),), None), None)
+>>> is_lossless(partly)
+False
+"""
+
+DETECTING = """
+>>> from migraproof.detecting import undetected
+>>> undetected(one, one, ((("p",),),)) is None
+True
+>>> undetected(one, one, ((("p",),),), own=("x",)) == ((one, one, (), (None,)), (one, one, ("x",), (((None,),), None)), (("x",),))
+True
 """
 
 RECOVERY = """
@@ -224,6 +248,69 @@ True
 >>> question = compiled(nullable, answer, (("set", "answer", "differs", ("if", ((no_difference, ("cell", ("no",))),), ("cell", ("yes",)))),))
 >>> examples(recover(filled, question)[0])
 (((('v1', 'v1'),), ((('no',),),)), ((('v1', 'v2'),), ((('yes',),),)))
+"""
+
+REPAIR = """
+>>> from migraproof.repair import spare_needed, kept, equivalence
+>>> item = ((("item", False, (("name", "text", False), ("size", ("small", "large", "huge"), False))),), ())
+>>> shown = ((("shown", False, (("first", "text", False), ("second", "text", True))),), ())
+>>> first_draft = compiled(item, shown, (("set", "shown", "first", ("column", "item", "name")), ("set", "shown", "second", ("cell", None))))
+>>> (spare_needed(first_draft), kept(first_draft))
+(2, (True, False, False, True, False, False, True, False, False))
+>>> repair(first_draft)[2:]
+(('c1', 'c2'), ((('c1', None),), (('c1', 'c1'),), (('c1', 'c2'),), (('c2', None),), (('c2', 'c1'),), (('c2', 'c2'),), (('v1', None),), (('c1', 'v1'),), (('c2', 'v1'),)))
+>>> (excess(item, shown) is None, excess(shown, item), equivalence(item, shown) is None)
+(True, (3, 12, 9), True)
+>>> examples(equivalence(unlike_pair, free)[0])
+(((('v1', None),), (('v1', 'v1'),)), ((('v1', 'v2'),), (('v1', 'v2'),)))
+"""
+
+FIBRES = """
+>>> from migraproof.fibres import hidden_texts, groups, fibre, crowded
+>>> letters = ((("u", False, (("c", "text", False),)),), ())
+>>> shortened = compiled(nullable, letters, (("set", "u", "c", a),))
+>>> (hidden_texts(shortened), groups(shortened), fibre(shortened, 0))
+(((), (), ('v2',)), ((0, 1, 2),), (1, 1))
+>>> (archive_size(shortened), crowded(shortened, 1, 2) is None, crowded(shortened, 1, 1), crowded(shortened, 0, 9))
+((1, 2), True, (0, 1), (0, 9))
+"""
+
+ARCHIVES = """
+>>> from migraproof.archives import text_rows, many_text_rows, archive
+>>> (text_rows(("x", "b"), 2, 1), many_text_rows(2, 2, 1))
+((('x', 'v1'), ('b', 'v1'), ('v1', 'x'), ('v1', 'b'), ('v1', 'v1')), 5)
+>>> examples(archive(shortened))
+(((('v1', None),), (('v1',), (('p1',), 'v1'))), ((('v1', 'v1'),), (('v1',), (('p2',), 'v1'))), ((('v1', 'v2'),), (('v1',), (('p1',), 'v2'))))
+>>> archive(shortened)[1][0][1]
+('archive', False, (('value', ('p1', 'p2'), False), ('text1', 'text', False)))
+>>> recover_record(archive(shortened))[1] is None
+True
+"""
+
+COMMON = """
+>>> from migraproof.common import known_positions, parts, common_part
+>>> tagged = ((("t", False, (("tag", ("x", "y"), False), ("a", "text", False), ("b", "text", False))),), ())
+>>> copied = compiled(tagged, free, (("set", "u", "c", a), ("set", "u", "d", b)))
+>>> doubled = compiled(tagged, free, (("set", "u", "c", a), ("set", "u", "d", a)))
+>>> known_positions(copied, doubled)
+(((0,), (0,)), ((0,), (0,)), ((0,), (0,)), ((0,), (0,)))
+>>> parts(copied, doubled)
+(((0, 1, 2, 3), False),)
+>>> examples(common_part(copied, doubled)[0])[1]
+(((('x',), 'v1', 'v2'),), ((('p1',), 'v1'),))
+>>> is_x = ("=", ("column", "t", "tag"), ("cell", ("x",)))
+>>> crossed = compiled(tagged, free, (("set", "u", "c", ("if", ((is_x, a),), b)), ("set", "u", "d", ("if", ((is_x, b),), a))))
+>>> common_part(copied, crossed)[0] is None
+True
+"""
+
+CHAINS = """
+>>> from migraproof.chains import joining_chain
+>>> joining_chain(copied, doubled, ((("x",), "p", "q"),), ((("x",), "q", "q"),))
+()
+>>> chain = joining_chain(copied, doubled, ((("x",), "p", "q"),), ((("y",), "p", "r"),))
+>>> (chain[0], chain[-1])
+(((('x',), 'p', 'q'),), ((('y',), 'p', 'r'),))
 """
 
 TOKENS = """
@@ -248,17 +335,58 @@ raises TextError(place=18, reason='expected an expression')
 raises TextError(place=17, reason='expected )')
 """
 
+PRINTER = r"""
+>>> from migraproof.printer import show_tree, show_schema, show_script
+>>> show_tree(("and", (("or", (unlike, ("true",))), ("not", ("and", (("exists", "u"), ("false",)))))))
+'(t.a != "x" or true) and not (exists u and false)'
+>>> show_schema(one)
+'table t {\n  a text;\n}\n'
+>>> show_script((("drop", unlike), ("set", "t", "a", choice)))
+'drop when t.a != "x";\nt.a = if t.a != "x" then t.a else if exists u then "y" else null;\n'
+"""
+
+DEPLOYMENT = """
+>>> from migraproof.deployment import Deployment
+>>> plain = ((("person", False, (("name", "text", False), ("city", "text", True))),), ())
+>>> named = ((("account", False, (("login", "text", False),)),), ())
+>>> deployment = Deployment(plain)
+>>> deployment.put("k1", (("ann", None),))
+>>> deployment.migrate(named, (("set", "account", "login", name),))
+(1, 2)
+>>> deployment.database
+(('k1', (('ann',), (('p1',), 'ann'))),)
+>>> deployment.ask(plain, (("set", "person", "name", name), ("set", "person", "city", city)))
+(('k1', (('ann', None),)),)
+>>> deployment.put("k2", (("bob",), (("p2",), "rome")))
+raises NoWayBack(number=0)
+>>> deployment.put("k2", (("bob",), (("p1",), "rome")))
+>>> deployment.roll_back()
+>>> deployment.database
+(('k1', (('ann', None),)), ('k2', (('bob', 'rome'),)))
+>>> (len(deployment), "k2" in deployment, list(deployment), deployment.version)
+(2, True, ['k1', 'k2'], 0)
+"""
+
+JOURNAL = """
+>>> from migraproof.journal import replayed
+>>> replayed(plain, deployment.log).database == deployment.database
+True
+"""
+
+ALL = (POINT_3, TEXTS, RECORDS, TREES, CONDITIONS, SCHEMAS, COUNTING, CASES, DESCRIBING, POLYNOMIALS, CAPACITY,
+       SCRIPTS, MIGRATIONS, COMPOSING, SCRIPTING, ANALYSIS, DETECTING, RECOVERY, REPAIR, FIBRES, ARCHIVES, COMMON,
+       CHAINS, TOKENS, READER, PRINTER, DEPLOYMENT, JOURNAL)
+
 
 class Examples(unittest.TestCase):
-    def test_examples_of_the_interface(self):
+    def test_all_examples_in_one_run(self):
         names = {}
-        for text in (BEGINNING, TEXTS, RECORDS, TREES, CONDITIONS, SCHEMAS, COUNTING, CASES, DESCRIBING, POLYNOMIALS,
-                     CAPACITY, SCRIPTS, MIGRATIONS, COMPOSING, SCRIPTING, ANALYSIS, RECOVERY, TOKENS, READER):
+        for text in ALL:
             check_examples(self, text, names)
 
     def test_what_point_3_reads(self):
         names = {}
-        check_examples(self, BEGINNING, names)
+        check_examples(self, POINT_3, names)
         person_name, nick = ("column", "person", "name"), ("column", "person", "nick")
         self.assertEqual(names["before"], (
             (("person", False, (("name", "text", False), ("nick", "text", True),

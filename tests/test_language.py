@@ -8,6 +8,8 @@ import re
 import unittest
 
 import migraproof
+from migraproof.deployment import Deployment
+from support import PROPERTIES
 
 FOLDER = os.path.dirname(migraproof.__file__)
 # The words that rule L17 bars from the files, strings included, and those barred inside longer words as well.
@@ -15,7 +17,7 @@ BARRED = ("type", "typing", "typing_extensions", "enum", "Enum", "IntEnum", "Str
           "Protocol", "ABC", "ABCMeta", "namedtuple", "NamedTuple", "TypedDict", "TYPE_CHECKING", "abstractmethod")
 BARRED_INSIDE = ("dataclass", "overload", "contextmanager")
 BUILTINS = ("len range enumerate zip min max sum abs sorted reversed int str bool list tuple dict set isinstance ord "
-            "repr any all divmod ValueError super").split()
+            "repr any all divmod ValueError super property iter").split()
 # The methods of builtin values that rule L25 lists first, and those of sets that L24 allows.
 METHODS = (
     "append clear copy count endswith extend find get index insert isalnum isalpha isdigit islower isspace isupper "
@@ -56,10 +58,29 @@ INTERFACE = {
     "scripting": {"script_of": "(migration)"},
     "recovery": {"recover": "(migration, query)", "recover_record": "(migration)",
                  "is_collision": "(migration, query, first, second)"},
+    "analysis": {"compare_migrations": "(first, second)", "analyze": "(migration)", "is_lossless": "(migration)",
+                 "inverse": "(migration)"},
+    "detecting": {"undetected": "(source, target, records, *, own=())"},
+    "repair": {"spare_needed": "(draft)", "kept": "(draft)", "repair": "(draft)", "equivalence": "(source, target)"},
+    "fibres": {"hidden_texts": "(migration)", "groups": "(migration)", "fibre": "(migration, number)",
+               "crowded": "(migration, columns, values)", "archive_size": "(migration)"},
+    "archives": {"text_rows": "(texts, columns, many)", "many_text_rows": "(length, columns, many)",
+                 "archive": "(migration)"},
+    "common": {"known_positions": "(first, second)", "parts": "(first, second)", "common_part": "(first, second)"},
+    "chains": {"joining_chain": "(first, second, record, other)"},
     "tokens": {"tokens_of": "(source)"},
     "reader": {"read_schema": "(source)", "read_condition": "(source)", "read_expression": "(source)",
                "read_script": "(source)"},
+    "printer": {"show_tree": "(tree)", "show_schema": "(schema)", "show_script": "(script)"},
+    "deployment": {"Deployment": "(schema)"},
+    "journal": {"replayed": "(schema, log)"},
 }
+# What the interface lists for the class of deployments: its methods, and how they are called, and its properties.
+METHODS_OF_DEPLOYMENTS = {
+    "__init__": "(self, schema)", "put": "(self, key, record)", "drop": "(self, key)",
+    "migrate": "(self, target, script)", "roll_back": "(self)", "commit": "(self)",
+    "ask": "(self, target, script, *, version=0)", "execute": "(self, command)", "__len__": "(self)",
+    "__contains__": "(self, key)", "__iter__": "(self)"}
 
 
 def sources():
@@ -207,7 +228,63 @@ class Language(unittest.TestCase):
                     self.assertNotIsInstance(node.iter, (ast.Set, ast.SetComp), name)
 
 
+    def test_what_the_class_that_is_measured_and_iterated_over_rules_out(self):
+        found = [node for _, tree in trees() for node in ast.walk(tree)]
+        for node in found:
+            self.assertNotIsInstance(node, ast.Try)
+            if isinstance(node, ast.FunctionDef) and node.name in ("__len__", "__iter__"):
+                word = node.name.strip("_")
+                self.assertRegex(ast.unparse(node.body[-1]), rf"\Areturn {word}\(self\.\w+\)\Z")
+                self.assertEqual(len(node.body), 1)
+            if isinstance(node, ast.ImportFrom):
+                self.assertNotIn(node.module, ("itertools", "heapq"))
+            if isinstance(node, ast.Call):
+                called = node.func.attr if isinstance(node.func, ast.Attribute) else getattr(node.func, "id", None)
+                self.assertNotEqual(called, "sort")
+                if called == "sorted":
+                    self.assertNotIsInstance(node.args[0], ast.GeneratorExp)
+
+    def test_properties_change_nothing_and_their_names_mean_nothing_else(self):
+        found = [node for _, tree in trees() for node in ast.walk(tree)]
+        names = []
+        for node in found:
+            if isinstance(node, ast.FunctionDef) and node.decorator_list:
+                self.assertEqual([ast.unparse(each) for each in node.decorator_list], ["property"])
+                self.assertEqual([type(each) for each in node.body], [ast.Expr, ast.Return])
+                names.append(node.name)
+        self.assertEqual(sorted(names), sorted(PROPERTIES))
+        assigned = [node.attr for node in found if isinstance(node, ast.Attribute) and isinstance(node.ctx, ast.Store)]
+        functions = [node.name for node in found if isinstance(node, ast.FunctionDef)]
+        for name in names:
+            self.assertNotIn(name, assigned)
+            self.assertEqual(functions.count(name), 1)
+
+    def test_no_name_is_a_method_and_an_attribute(self):
+        found = [node for _, tree in trees() for node in ast.walk(tree)]
+        assigned = {node.attr for node in found if isinstance(node, ast.Attribute) and isinstance(node.ctx, ast.Store)}
+        functions = {node.name for node in found if isinstance(node, ast.FunctionDef)}
+        for node in found:
+            if isinstance(node, ast.ClassDef):
+                methods = [each.name for each in node.body if isinstance(each, ast.FunctionDef)]
+                self.assertEqual(assigned & set(methods), set())
+                self.assertEqual(len(set(methods)), len(methods))
+            if isinstance(node, ast.Attribute) and isinstance(node.value, ast.Name) and node.value.id == "self":
+                self.assertIn(node.attr, {*assigned, *functions})
+
+
 class Interface(unittest.TestCase):
+    def test_the_class_of_deployments_defines_what_is_listed_for_it(self):
+        own = vars(Deployment)
+        for name, called in METHODS_OF_DEPLOYMENTS.items():
+            self.assertEqual(str(inspect.signature(own[name])), called)
+        for name in PROPERTIES:
+            self.assertIsInstance(own[name], property)
+        self.assertEqual(Deployment.__bases__, (object,))
+
+    def test_each_file_is_listed(self):
+        files = {name[:-3] for name, _ in sources()}
+        self.assertEqual(files, {"__init__", "errors", *INTERFACE})
+
     def test_each_listed_function_is_defined_in_its_own_file(self):
         found = dict(trees())
         for module, functions in INTERFACE.items():

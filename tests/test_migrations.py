@@ -10,8 +10,8 @@ from migraproof.migrations import compiled, examples, first_use, from_results, i
 from migraproof.records import exchanged, renamed
 from migraproof.schemas import constants_of
 from migraproof.scripts import applied
-from samples import (FREE_PAIR, IMPOSSIBLE, MIXED, NULL, ONE, OPTIONAL, PAIR, SPLIT, TAGGED, X, column, equal,
-                     random_result, random_script, table, text, texts_in, unequal, valid_over, values)
+from samples import (FREE_PAIR, IMPOSSIBLE, MIXED, NULL, ONE, OPTIONAL, PAIR, SPLIT, TAGGED, X, choose, column, equal,
+                     random_result, random_script, set_a, table, text, texts_in, unequal, valid_over, values)
 from support import raised_text
 
 A, B = column("t.a"), column("t.b")
@@ -22,16 +22,8 @@ K299 = tuple(sorted(f"k{number}" for number in range(299)))
 K300 = tuple(sorted((*K299, "v1")))
 
 
-def choose(*branches, otherwise=NULL):
-    return ("if", branches, otherwise)
-
-
 def one(name):
     return ((name,),)
-
-
-def set_a(expression):
-    return ("set", "t", "a", expression)
 
 
 def shown_to_be_needed(schemas, texts, function):

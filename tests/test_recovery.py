@@ -4,95 +4,24 @@ import itertools
 import random
 import unittest
 
-from migraproof.cases import cases, fixture
+from migraproof.cases import cases
 from migraproof.composing import followed_by
 from migraproof.counting import many_candidates
 from migraproof.migrations import compiled, examples, from_results, identity, migrated, reduced, result
-from migraproof.records import canonical, renamed
+from migraproof.records import canonical
 from migraproof.recovery import is_collision, recover, recover_record
 from migraproof.schemas import constants_of, is_valid
-from samples import (FREE_PAIR, IMPOSSIBLE, NULL, ONE, OPTIONAL, PAIR, SPLIT, TAGGED, X, column, equal, random_result,
-                     random_valid_results, table, text, texts_in, unequal, valid_over, values)
+from samples import (FREE_PAIR, IMPOSSIBLE, LETTERS, NULL, ONE, OPTIONAL, PAIR, SPLIT, TAGGED, TAGS, TWO, X, choose,
+                     column, equal, random_migration, set_c, set_d, table, tags, text, unequal, valid_over, values)
+from searches import collides, first_collision, some_collision
 from support import raised_text
 
 A, B = column("t.a"), column("t.b")
 C, D = column("u.c"), column("u.d")
 Y = ("cell", "y")
-TWO = ((table("u", text("c"), text("d")),), ())
-LETTERS = ((table("u", text("c")),), ())
-TAGS = ((table("u", values("s", 2)),), ())
 NULLS = ((table("u", text("c", True)),), ())
 WIDE = ((table("t", *[text(name) for name in "abcd"]),), ())
 WORD = {"w0": ("cell", ("w0",)), "w1": ("cell", ("w1",))}
-
-
-def choose(*branches, otherwise):
-    return ("if", branches, otherwise)
-
-
-def set_c(expression):
-    return ("set", "u", "c", expression)
-
-
-def set_d(expression):
-    return ("set", "u", "d", expression)
-
-
-def tell(condition):
-    """The "set" rule that tells by a value whether the condition is true."""
-    return ("set", "u", "s", choose((condition, WORD["w1"]), otherwise=WORD["w0"]))
-
-
-def first_collision(migration, query):
-    """The collision as [201] tells it, with all earlier cases tried."""
-    constants = tuple(sorted({*migration[2], *query[2]}))
-    earlier = []
-    for r in cases(migration[0], constants):
-        t, u = result(migration, r), result(query, r)
-
-        def free(record):
-            return [name for name in texts_in(record) if name not in constants]
-
-        samples = [f"v{number}" for number in range(1, 60) if f"v{number}" not in (*constants, *texts_in(r))]
-        if t is None and u is not None:
-            return (r, None)
-        if t is not None and u is not None:
-            for name in free(r):
-                if name in texts_in(u) and name not in texts_in(t):
-                    return (r, renamed(r, ((name, samples[0]),)))
-        if t is not None:
-            for e, image, answer in earlier:
-                if image is None or canonical(image, constants) != canonical(t, constants):
-                    continue
-                pairs = tuple(zip(free(image), free(t)))
-                if (answer and renamed(answer, pairs)) != u:
-                    rest = [name for name in free(e) if name not in free(image)]
-                    return (renamed(e, (*pairs, *zip(rest, samples))), r)
-        earlier.append((r, t, u))
-    return None
-
-
-def collides(migration, query, first, second):
-    """Whether the records, or the first one and None, are a collision, by its definition."""
-    image, answer = [[None if record is None else result(function, record) for record in (first, second)]
-                     for function in (migration, query)]
-    return image[0] == image[1] and answer[0] != answer[1]
-
-
-def some_collision(migration, query, texts):
-    """Whether there is any collision of records with these texts."""
-    records = [None, *valid_over(migration[0], texts)]
-    return any(collides(migration, query, first, second) for first, second in itertools.combinations(records, 2)
-               if first is not None) or any(collides(migration, query, record, None) for record in records[1:])
-
-
-def random_migration(rng, source, target, own, valid):
-    constants, records = fixture(source, target, own=own)
-    if valid:
-        results = random_valid_results(rng, target, constants, records)
-    else:
-        results = tuple(random_result(rng, target, (*constants, *texts_in(record))) for record in records)
-    return from_results(source, target, results, own=own)
 
 
 def copies(target):
@@ -111,19 +40,19 @@ class Rules(unittest.TestCase):
     def test_the_first_rule(self):
         no_b = compiled(FREE_PAIR, LETTERS, (("drop", equal(B, NULL)), set_c(A)))
         self.check(no_b, identity(FREE_PAIR), ((("v1", None),), None))
-        self.check(no_b, compiled(FREE_PAIR, TAGS, (tell(equal(A, X)),)), ((("x", None),), None))
+        self.check(no_b, compiled(FREE_PAIR, TAGS, (tags(equal(A, X)),)), ((("x", None),), None))
         none = compiled(FREE_PAIR, TWO, (("drop", equal(A, B)), set_c(A), set_d(A)))
         self.check(none, compiled(FREE_PAIR, LETTERS, (("drop", equal(B, NULL)), set_c(B))), ((("v1", "v1"),), None))
 
     def test_the_second_rule(self):
         letter = compiled(PAIR, LETTERS, (set_c(A),))
         self.check(letter, compiled(PAIR, NULLS, (set_c(B),)), ((("v1", "v2"),), (("v1", "v3"),)))
-        tag = compiled(PAIR, TAGS, (tell(equal(B, NULL)),))
+        tag = compiled(PAIR, TAGS, (tags(equal(B, NULL)),))
         self.check(tag, identity(PAIR), ((("v1", None),), (("v2", None),)))
         self.check(tag, compiled(PAIR, NULLS, (set_c(B),)), ((("v1", "v2"),), (("v1", "v3"),)))
 
     def test_the_second_rule_takes_the_first_free_text_of_the_case(self):
-        tag = compiled(PAIR, TAGS, (("drop", equal(B, NULL)), tell(("true",))))
+        tag = compiled(PAIR, TAGS, (("drop", equal(B, NULL)), tags(("true",))))
         turned = compiled(PAIR, TWO, (("drop", equal(B, NULL)), set_c(B), set_d(A)))
         self.check(tag, turned, ((("v1", "v2"),), (("v3", "v2"),)))
 
@@ -135,28 +64,28 @@ class Rules(unittest.TestCase):
         self.check(letter, answer, ((("v2", "v4"),), (("v2", "v5"),)))
 
     def test_the_third_rule(self):
-        tag = compiled(ONE, TAGS, (tell(equal(A, X)),))
-        self.check(tag, compiled(ONE, TAGS, (tell(equal(A, Y)),)), ((("y",),), (("v1",),)))
+        tag = compiled(ONE, TAGS, (tags(equal(A, X)),))
+        self.check(tag, compiled(ONE, TAGS, (tags(equal(A, Y)),)), ((("y",),), (("v1",),)))
         filled = compiled(FREE_PAIR, TWO, (set_c(A), set_d(choose((equal(B, NULL), A), otherwise=B))))
         self.check(filled, identity(FREE_PAIR), ((("v1", None),), (("v1", "v1"),)))
-        least = compiled(PAIR, TAGS, (tell(equal(B, NULL)),))
-        self.check(least, compiled(PAIR, TAGS, (tell(equal(B, X)),)), ((("x", "v2"),), (("v1", "x"),)))
+        least = compiled(PAIR, TAGS, (tags(equal(B, NULL)),))
+        self.check(least, compiled(PAIR, TAGS, (tags(equal(B, X)),)), ((("x", "v2"),), (("v1", "x"),)))
 
     def test_the_third_rule_with_an_answer_that_is_dropped(self):
-        all_alike = compiled(ONE, TAGS, (tell(("true",)),))
-        self.check(all_alike, compiled(ONE, TAGS, (("drop", equal(A, X)), tell(("true",)))), ((("x",),), (("v1",),)))
-        self.check(all_alike, compiled(ONE, TAGS, (("drop", unequal(A, X)), tell(("true",)))), ((("x",),), (("v1",),)))
+        all_alike = compiled(ONE, TAGS, (tags(("true",)),))
+        self.check(all_alike, compiled(ONE, TAGS, (("drop", equal(A, X)), tags(("true",)))), ((("x",),), (("v1",),)))
+        self.check(all_alike, compiled(ONE, TAGS, (("drop", unequal(A, X)), tags(("true",)))), ((("x",),), (("v1",),)))
 
     def test_the_third_rule_renames_the_earlier_case(self):
         # Both images of a case with two different texts have the text that is kept first.
         source = ((table("t", values("s", 2), text("a"), text("b")),), ())
         tag = column("t.s")
         kept = compiled(source, LETTERS, (set_c(choose((equal(tag, WORD["w0"]), B), otherwise=A)),))
-        which = compiled(source, TAGS, (tell(equal(tag, WORD["w0"])),))
+        which = compiled(source, TAGS, (tags(equal(tag, WORD["w0"])),))
         self.check(kept, which, (((("w0",), "v1", "v1"),), ((("w1",), "v1", "v1"),)))
         unlike = (source[0], (unequal(A, B),))
         kept = compiled(unlike, LETTERS, (set_c(choose((equal(tag, WORD["w0"]), B), otherwise=A)),))
-        which = compiled(unlike, TAGS, (tell(equal(tag, WORD["w0"])),))
+        which = compiled(unlike, TAGS, (tags(equal(tag, WORD["w0"])),))
         # The earlier case has v2 in its image, which becomes v1; its other text becomes the first new one.
         self.check(kept, which, (((("w0",), "v3", "v1"),), ((("w1",), "v1", "v2"),)))
 
@@ -164,7 +93,7 @@ class Rules(unittest.TestCase):
         unlike = ((table("t", text("a"), text("b"), ("s", ("w0", "w1"), False)),), (unequal(A, B),))
         tag = column("t.s")
         kept = compiled(unlike, LETTERS, (set_c(choose((equal(tag, WORD["w0"]), A), otherwise=B)),))
-        found = recover(kept, compiled(unlike, TAGS, (tell(equal(tag, WORD["w0"])),)))[1]
+        found = recover(kept, compiled(unlike, TAGS, (tags(equal(tag, WORD["w0"])),)))[1]
         self.assertEqual(found, ((("v2", "v3", ("w0",)),), (("v1", "v2", ("w1",)),)))
         self.assertEqual([record in cases(unlike, ()) for record in found], [False, True])
 
@@ -182,7 +111,7 @@ class Rules(unittest.TestCase):
         self.check(letter, identity(without_null), (((("w0",), "x", "v1"),), ((("w0",), "x", "v2"),)))
         # The second case has both an earlier case with the same image and a text that its image does not show.
         source = (PAIR[0], ())
-        alike = compiled(source, TAGS, (tell(("true",)),))
+        alike = compiled(source, TAGS, (tags(("true",)),))
         both = compiled(source, NULLS, (set_c(B),))
         self.assertEqual(cases(source, ()), ((("v1", None),), (("v1", "v1"),), (("v1", "v2"),)))
         self.check(alike, both, ((("v1", "v1"),), (("v2", "v2"),)))
@@ -247,7 +176,7 @@ class Recovered(unittest.TestCase):
 
     def test_no_function_of_the_image_differs_for_images_only(self):
         filled = compiled(FREE_PAIR, TWO, (set_c(A), set_d(choose((equal(B, NULL), A), otherwise=B))))
-        question = compiled(FREE_PAIR, TAGS, (tell(("or", (equal(B, NULL), equal(A, B)))),))
+        question = compiled(FREE_PAIR, TAGS, (tags(("or", (equal(B, NULL), equal(A, B)))),))
         recovered = self.check(filled, question)
         self.assertEqual(examples(recovered), (((("v1", "v1"),), ((("w1",),),)), ((("v1", "v2"),), ((("w0",),),))))
 
@@ -289,7 +218,7 @@ class Recovered(unittest.TestCase):
 
     def test_cases_of_the_target_for_the_constants_of_both(self):
         every = compiled(ONE, TWO, (set_c(A), set_d(("cell", "v1"))))
-        query = compiled(ONE, TAGS, (tell(equal(A, ("cell", "v2"))),))
+        query = compiled(ONE, TAGS, (tags(equal(A, ("cell", "v2"))),))
         self.assertEqual((every[2], query[2]), (("v1",), ("v2",)))
         recovered = self.check(every, query)
         self.assertEqual(result(recovered, (("v2", "v1"),)), ((("w1",),),))
@@ -331,7 +260,7 @@ class RecoverRecord(unittest.TestCase):
 
 class IsCollision(unittest.TestCase):
     LETTER = compiled(PAIR, LETTERS, (("drop", equal(A, Y)), set_c(choose((equal(A, X), B), otherwise=A))))
-    QUERY = compiled(PAIR, TAGS, (tell(equal(A, X)),))
+    QUERY = compiled(PAIR, TAGS, (tags(equal(A, X)),))
     GOOD = ((("x", "p"),), (("p", "q"),))
 
     def check(self, first, second, expected):
@@ -357,7 +286,7 @@ class IsCollision(unittest.TestCase):
         self.check((("y", "p"),), None, True)
         self.check((("y", None),), None, True)
         self.check((("x", "p"),), None, False)
-        no_answer = compiled(PAIR, TAGS, (("drop", equal(A, Y)), tell(("true",))))
+        no_answer = compiled(PAIR, TAGS, (("drop", equal(A, Y)), tags(("true",))))
         self.assertFalse(is_collision(self.LETTER, no_answer, (("y", "p"),), None))
 
     def test_similar_but_different_records(self):
@@ -368,8 +297,8 @@ class IsCollision(unittest.TestCase):
 
     def test_a_record_and_a_dropped_one(self):
         self.check((("y", "p"),), (("y", "q"),), False)
-        tags = compiled(PAIR, TAGS, (tell(equal(B, X)),))
-        self.assertTrue(is_collision(self.LETTER, tags, (("y", "x"),), (("y", "q"),)))
+        by_tag = compiled(PAIR, TAGS, (tags(equal(B, X)),))
+        self.assertTrue(is_collision(self.LETTER, by_tag, (("y", "x"),), (("y", "q"),)))
 
     def test_records_that_are_not_valid(self):
         for bad in ((("p", "p"),), (("x", "x"),), ((None, "p"),), (("p",),), ((),), (), (None,), ((("p",), "p"),),
@@ -415,7 +344,7 @@ class Errors(unittest.TestCase):
         self.assertFalse(is_collision(self.INVALID, identity(FREE_PAIR), (("p", "p"),), (("p", None),)))
 
     def test_the_place_is_that_among_the_migration_s_own_cases(self):
-        query = compiled(FREE_PAIR, TAGS, (tell(("or", (equal(A, X), equal(B, Y)))),))
+        query = compiled(FREE_PAIR, TAGS, (tags(("or", (equal(A, X), equal(B, Y)))),))
         self.assertEqual(raised_text(recover, self.INVALID, query), "InvalidResults(place=1)")
 
     def test_invalid_results_before_too_many_cases(self):

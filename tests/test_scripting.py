@@ -11,8 +11,8 @@ from migraproof.scripting import script_of
 from migraproof.scripts import applied, check_script, script_texts
 from migraproof.trees import depth
 from samples import (FREE_PAIR, IMPOSSIBLE, MIDDLE, NULL, ONE, OPTIONAL, PAIR, SPLIT, TAGGED, X, column, equal,
-                     random_result, random_script, random_valid_results, table, text, texts_in, unequal, valid_over,
-                     values)
+                     random_result, random_script, random_valid_results, set_a, table, text, texts_in, unequal,
+                     valid_over, values)
 
 A, B = column("t.a"), column("t.b")
 Y = ("cell", "y")
@@ -21,10 +21,6 @@ TAGS = ((table("u", ("s", ("w1", "w0", "other"), True), ("k", ("w0",), False), o
         ())
 CHECKED = (OPTIONAL[0], (("or", (unequal(column("t.a"), ("cell", "m")), ("exists", "u"))),))
 SCHEMAS = (ONE, FREE_PAIR, PAIR, OPTIONAL, TAGGED, SPLIT, TAGS, CHECKED, IMPOSSIBLE)
-
-
-def set_a(expression):
-    return ("set", "t", "a", expression)
 
 
 class ScriptOf(unittest.TestCase):
