@@ -47,8 +47,8 @@ def chain_between(web, stop, other):
     if path is None:
         return ()
     stops = stops_along(web, stop, path, other[1])
-    stops.append(moved(web, stops[-1], 0, other[0], other[1]))
-    stops.extend(stops_with_new_names(web, stops[-1], other[1]))
+    last = moved(web, stops[-1], 0, other[0], other[1])
+    stops = [*stops, last, *stops_with_new_names(web, last, other[1])]
     return without_repeats([record_at(web, each) for each in stops])
 
 
@@ -151,7 +151,8 @@ def stops_with_new_names(web, stop, names):
     stops = [stop]
     for news in (sample_texts(len(names), but=(*web.constants, *stop[1], *names)), names):
         for place in places:
-            stops.extend(stops_with_one_new_name(web, stops[-1], stops[-1][1][place], news[place]))
+            last = stops[-1]
+            stops.extend(stops_with_one_new_name(web, last, last[1][place], news[place]))
     return stops[1:]
 
 
